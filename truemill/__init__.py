@@ -1,0 +1,1 @@
+"""Truemill: a build system whose workers, caches and messengers are not trusted."""
