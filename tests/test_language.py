@@ -38,6 +38,10 @@ BARRED_NODES = (
 INTERFACE = {
     "paths": "is_segment is_path is_folder lies_in is_pattern matches",
     "trees": "make_tree name_at members subtree moved_into overlay",
+    "changes": "difference apply_changes reverse_changes compose_changes merge_changes",
+    "store": "Store text_fault",
+    "lexer": "tokens",
+    "parser": "parse",
 }
 
 
