@@ -42,6 +42,9 @@ INTERFACE = {
     "store": "Store text_fault",
     "lexer": "tokens",
     "parser": "parse",
+    "writer": "without_places write",
+    "evaluator": "evaluate",
+    "tools": "run_tool lines_of",
 }
 
 
