@@ -15,6 +15,8 @@ BUILTINS = set("""
     len range enumerate zip min max sum abs sorted reversed int str bool list tuple dict set
     isinstance ord repr any all divmod ValueError
 """.split())
+# What may be imported from Python's own library (L2), as far as the package needs it.
+HEAP_NAMES = {"heappush", "heappop"}
 # The methods of Python's own values that may be called (L25), without the additional ones.
 METHODS = set("""
     append clear copy count endswith extend find get index insert isalnum isalpha isdigit islower
@@ -45,6 +47,15 @@ INTERFACE = {
     "writer": "without_places write",
     "evaluator": "evaluate",
     "tools": "run_tool lines_of",
+    "keys": "key_text read_key claim_text read_claim",
+    "graph": "make_graph action_of build_order closure users affected",
+    "clean": "clean_build graph_of",
+    "roster": "Roster words_of",
+}
+# The methods that the interface lists for a class, which the class itself must define.
+METHODS_OF = {
+    "store": ("Store", "put text has name_of names lose pin unpin pins sweep put_tree texts_of"),
+    "roster": ("Roster", "add houses sign revoke is_revoked counts tell claim_of has_voice vouchers strikes"),
 }
 
 
@@ -105,6 +116,10 @@ class LanguageTests(unittest.TestCase):
     def test_imports(self):
         for name, node in self.nodes(ast.ImportFrom):
             self.assertEqual(node.level, 0, name)
+            if node.module == "heapq":
+                self.assertLessEqual({alias.name for alias in node.names}, HEAP_NAMES, name)
+                self.assertEqual([alias.asname for alias in node.names], [None] * len(node.names), name)
+                continue
             self.assertTrue(node.module.startswith("truemill."), (name, node.module))
             source = self.trees[PACKAGE / (node.module.split(".")[1] + ".py")]
             defined = {part.name for part in source.body if isinstance(part, (ast.FunctionDef, ast.ClassDef))}
@@ -115,7 +130,8 @@ class LanguageTests(unittest.TestCase):
     def test_imports_go_in_one_direction(self):
         needs = {path.stem: [] for path in FILES}
         for name, node in self.nodes(ast.ImportFrom):
-            needs[name[:-3]].append(node.module.split(".")[1])
+            if node.module != "heapq":
+                needs[name[:-3]].append(node.module.split(".")[1])
         while needs:
             free = [name for name in needs if not any(need in needs for need in needs[name])]
             self.assertTrue(free, needs)
@@ -150,7 +166,7 @@ class LanguageTests(unittest.TestCase):
     def test_calls(self):
         for name, node in self.nodes(ast.Call):
             if isinstance(node.func, ast.Name):
-                self.assertIn(node.func.id, BUILTINS | self.own, (name, node.lineno))
+                self.assertIn(node.func.id, BUILTINS | HEAP_NAMES | self.own, (name, node.lineno))
             else:
                 self.assertIsInstance(node.func, ast.Attribute, (name, node.lineno))
                 self.assertIn(node.func.attr, METHODS | self.own, (name, node.lineno))
@@ -199,6 +215,12 @@ class LanguageTests(unittest.TestCase):
             found = importlib.import_module("truemill." + module)
             for name in names.split():
                 self.assertEqual(getattr(found, name).__module__, "truemill." + module)
+
+    def test_the_methods_are_defined_in_their_classes(self):
+        for module, (kind, methods) in METHODS_OF.items():
+            found = getattr(importlib.import_module("truemill." + module), kind)
+            for name in methods.split():
+                self.assertIn(name, vars(found), kind)
 
 
 if __name__ == "__main__":
