@@ -2,13 +2,13 @@
 
 from truemill.errors import BadMessage
 from truemill.lexer import tokens
+from truemill.numerals import is_numeral
 from truemill.store import text_fault
 
 MOST_ARGS = 12
 LONGEST_ARG = 60
 MOST_NAMES = 24
 MOST_DIGITS = 5
-DIGITS = "0123456789"
 LONGEST_REASON = 80
 
 
@@ -58,9 +58,7 @@ def are_names(names):
 
 def is_name(text):
     """Whether a text is a name of the store in digits, without leading zeros."""
-    if text == "" or len(text) > MOST_DIGITS or text[0] == "0":
-        return False
-    return all([sign in DIGITS for sign in text])
+    return is_numeral(text, MOST_DIGITS) and text != "0"
 
 
 def claim_text(result):
