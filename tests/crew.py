@@ -102,7 +102,8 @@ class Crew:
     def told(self, hand, way, number, topic):
         """Return the packet of a worker that tells something."""
         if way == "nonsense":
-            bodies = (f"told {number} x\nmade\n", f"told 0{number} x\n", "", f"told {number + 1} {hand.house}-1\nmade\nx", "busy 1")
+            bodies = (f"told {number} x\nmade\n", f"told {number} \nmade\n", f"told 0{number} x\n", "",
+                      f"told {number + 1} {hand.house}-1\nmade\nx", "busy 1")
             return hand.link.send(self.chance.choice(bodies))
         claim = true_claim(read_key(topic), self.texts)
         if way == "lie" or (way == "sly" and len(topic) % 3 == 0):

@@ -587,9 +587,11 @@ class AnswerTests(FloorCase):
                      "busy +1", "busy 1.", "busy 0000001", "busy 1000000", "Busy 1", "busy x", "lazy 1", "1", "busy1",
                      f"told 1 {mark}", f"told 01 {mark}\nmade\nx", f"told 0000001 {mark}\nmade\nx", f"told  1 {mark}\nmade\nx",
                      f"told 1  {mark}\nmade\nx", f"told 1 {mark} \nmade\nx", f" told 1 {mark}\nmade\nx", f"told 1 {mark} x\nmade\nx",
-                     "told 1 \nmade\nx", "told 1\nmade\nx", "told 1 a 1\nmade\nx", f"told +1 {mark}\nmade\nx", f"told x {mark}\nmade\nx",
+                     "told 1  \nmade\nx", "told 1\nmade\nx", "told 1 a 1\nmade\nx", f"told +1 {mark}\nmade\nx", f"told x {mark}\nmade\nx",
                      f"tell 1 {mark}\nmade\nx", f"{mark} 1\nmade\nx", f"told\n1 {mark}\nmade\nx", f"told {mark}\nmade\nx",
-                     f"offer 1 {mark}\nmade\nx", f"busy 1 {mark}\nmade\nx", "told 1", f"told 1\n{mark}\nmade\nx", "offer 1\n" + T1):
+                     f"offer 1 {mark}\nmade\nx", f"busy 1 {mark}\nmade\nx", "told 1", f"told 1\n{mark}\nmade\nx", "offer 1\n" + T1,
+                     "told 1 ", "told 1  ", "told 1\n", "told 1\n ", "told  \nmade\nx", "told \nmade\nx", " told 1 \nmade\nx",
+                     "told 01 \nmade\nx", "told  1 \nmade\nx", "busy 1 \nmade\nx"):
             self.assertEqual(self.answer("a", body), ("new", "odd"), body)
         self.assertEqual(self.floor.workers(), (("a", 1, 0),))
         self.assertIs(self.roster.has_voice(T1, "a"), False)
@@ -604,17 +606,52 @@ class AnswerTests(FloorCase):
 
     def test_any_mark(self):
         self.started()
-        for mark in ("x", "-", "a-1-1", "\"", "{}", "9" * 100):
+        for mark in ("", "x", "-", "a-1-1", "\"", "{}", "9" * 100):
             self.assertEqual(self.answer("a", f"told 1 {mark}\n"), ("new", "bad"))
+
+    def test_an_empty_mark(self):
+        for claim in ("x", "", "made\nx", "\n", " "):
+            self.started()
+            self.assertEqual(self.answer("a", f"told 1 \n{claim}"), ("new", "bad"))
+            self.assertEqual(self.floor.workers(), (("a", 1, 1), ("b", 0, 0)))
+            self.assertEqual(self.floor.jobs(), (T1, T2))
+            self.assertIsNone(self.roster.claim_of(T1))
+            self.assertIs(self.roster.has_voice(T1, "a"), False)
+            self.assertEqual(self.floor.turn(0), ((3, "b", T1),))
+
+    def test_an_empty_mark_for_an_offer_that_is_closed(self):
+        self.started()
+        self.assertEqual(self.answer("a", "busy 1"), ("new", "busy"))
+        self.assertEqual(self.answer("a", "told 1 \nx"), ("new", "bad"))
+        self.assertEqual(self.floor.workers(), (("a", 1, 2), ("b", 0, 0)))
+        self.floor.drop(T2)
+        self.assertEqual(self.answer("a", "told 2 \nx"), ("new", "bad"))
+        self.assertEqual(self.floor.workers(), (("a", 0, 3), ("b", 0, 0)))
+
+    def test_an_empty_mark_about_a_settled_topic(self):
+        self.started()
+        self.assertEqual(self.answer("a", self.told(1, "a", T1)), ("new", "settled"))
+        self.assertEqual(self.answer("a", "told 1 \nmade\nx"), ("new", "bad"))
+        self.assertEqual(self.answer("a", "told 1 \nmade\ny"), ("new", "bad"))
+        self.assertEqual(self.lapses(), {"a": 2, "b": 0})
+        self.assertEqual(self.roster.strikes("a"), 0)
+
+    def test_an_empty_mark_for_no_offer_of_the_worker(self):
+        self.started(need=2)
+        for number in (0, 2, 4, 5, 999999):
+            self.assertEqual(self.answer("a", f"told {number} \nx"), ("new", "odd"))
+        self.assertEqual(self.floor.workers(), (("a", 2, 0), ("b", 2, 0)))
 
     def test_numbers_of_six_digits(self):
         # So many offers take long to make, so the bodies are only read here.
         for number in (1, 10, 99999, 100000, 999999):
             self.assertEqual(read_answer(f"busy {number}"), (number, None, None))
             self.assertEqual(read_answer(f"told {number} m\nc"), (number, "m", "c"))
+            self.assertEqual(read_answer(f"told {number} \nc"), (number, "", "c"))
         for number in ("1000000", "9999999", "0100000", "000001"):
             self.assertIsNone(read_answer(f"busy {number}"))
             self.assertIsNone(read_answer(f"told {number} m\nc"))
+            self.assertIsNone(read_answer(f"told {number} \nc"))
 
     def test_numbers_of_several_digits(self):
         self.start(lease=1, workers="a")
@@ -696,7 +733,7 @@ class PlainFloor:
         news, body = worker["link"].take(packet)
         if news != "new":
             return (news, None)
-        found = re.fullmatch(r"(?s:busy ([1-9]\d{0,5})|told ([1-9]\d{0,5}) ([^ \n]+)\n(.*))", body)
+        found = re.fullmatch(r"(?s:busy ([1-9]\d{0,5})|told ([1-9]\d{0,5}) ([^ \n]*)\n(.*))", body)
         at = int(found[1] or found[2]) - 1 if found else None
         if at is None or at >= len(self.offers) or self.offers[at]["worker"] is not worker:
             return ("new", "odd")
@@ -724,9 +761,11 @@ class PlainWayTests(unittest.TestCase):
         if kind == "busy":
             return f"busy {number}"
         if kind == "bad":
-            return f"told {number} {worker[0]}-{self.chance.randrange(1, 40)}\nx"
+            mark = self.choice(["", f"{worker[0]}-{self.chance.randrange(1, 40)}"])
+            return f"told {number} {mark}\nx"
         if kind == "odd":
-            return self.choice(["", f"busy 0{number}", f"told {number}\nx", f"told {number} a b\nx", f"busy {number}\n"])
+            return self.choice(["", f"busy 0{number}", f"told {number}\nx", f"told {number} a b\nx", f"busy {number}\n",
+                                f"told {number} ", f"told {number}  \nx"])
         topic = ([about for given, _, about in offers if given == number] or topics)[0]
         claim = self.choice("xxxy")
         if rosters[0].is_revoked(worker[0]):

@@ -177,6 +177,7 @@ def read_answer(body):
         return None
     if parts[0] == "busy" and len(parts) == 2 and newline == "":
         return (int(parts[1]), None, None)
-    if parts[0] == "told" and len(parts) == 3 and parts[2] != "" and newline == "\n":
+    # The third part may be empty: the empty text is a mark, too, though one that never counts.
+    if parts[0] == "told" and len(parts) == 3 and newline == "\n":
         return (int(parts[1]), parts[2], claim)
     return None
